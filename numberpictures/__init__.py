@@ -1,0 +1,1 @@
+"""Pictures of numbers: how what stands in a cell is shown, and how what is entered is read."""
