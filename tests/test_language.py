@@ -11,8 +11,7 @@ PACKAGE = pathlib.Path(__file__).resolve().parent.parent / "numberpictures"
 STATEMENTS = (ast.Assign, ast.AugAssign, ast.If, ast.While, ast.For, ast.Return, ast.Break, ast.Continue, ast.Pass,
               ast.Raise, ast.Try, ast.Expr, ast.FunctionDef, ast.ClassDef, ast.ImportFrom)
 
-FORBIDDEN_NODES = (ast.Div, ast.JoinedStr, ast.SetComp, ast.DictComp, ast.GeneratorExp, ast.NamedExpr, ast.Starred,
-                   ast.Set, ast.Lambda, ast.Is, ast.IsNot, ast.Pow)
+FORBIDDEN_NODES = (ast.Div, ast.SetComp, ast.DictComp, ast.GeneratorExp, ast.NamedExpr, ast.Starred)
 
 OWN_NAMES = """len range enumerate zip min max sum abs sorted reversed int str bool list tuple dict set frozenset
     isinstance ord repr any all divmod Exception ValueError TypeError KeyError IndexError LookupError
@@ -69,7 +68,12 @@ class Language(unittest.TestCase):
                 if isinstance(node.value, str):
                     self.assertNotIn("%", node.value, place)
 
+    def own_methods(self):
+        classes = [node for place, node in self.nodes() if isinstance(node, ast.ClassDef)]
+        return [node.name for own in classes for node in own.body if isinstance(node, ast.FunctionDef)]
+
     def test_names(self):
+        methods = METHODS + self.own_methods()
         for place, node in self.nodes():
             if isinstance(node, ast.Name):
                 self.assertRegex(node.id, r"^[A-Za-z]", place)
@@ -80,7 +84,7 @@ class Language(unittest.TestCase):
                 self.assertNotIn(node.arg, dir(builtins), place)
                 self.assertIsNone(node.annotation, place)
             if isinstance(node, ast.Call) and isinstance(node.func, ast.Attribute):
-                self.assertIn(node.func.attr, METHODS, place)
+                self.assertIn(node.func.attr, methods, place)
 
     def test_imports_and_tops(self):
         for name, tree in self.trees.items():
