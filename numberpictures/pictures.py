@@ -2,8 +2,13 @@
 
 from numberpictures.pieces import NoPicture
 from numberpictures.sections import read_sections
+from numberpictures.showing import show_value
+from numberpictures.times import CannotShow
+from numberpictures.values import WrongArgument, demand_value
 
+WRONG_ARGUMENT = -1
 NO_PICTURE = -3
+CANNOT_SHOW = -4
 
 
 def check(picture):
@@ -16,3 +21,18 @@ def check(picture):
     for section in sections:
         answer.extend([section.colour, section.kind])
     return answer
+
+
+def show(picture, value):
+    """The colour (0 none), then how many bytes are shown, and these."""
+    try:
+        sections = read_sections(picture)
+        demand_value(value)
+        shown = show_value(sections, value)
+    except NoPicture:
+        return [NO_PICTURE]
+    except WrongArgument:
+        return [WRONG_ARGUMENT]
+    except CannotShow:
+        return [CANNOT_SHOW]
+    return [shown.colour, len(shown.codes)] + shown.codes

@@ -1,9 +1,8 @@
 """Reads a picture into its sections and finds of which kind each of them is."""
 
-from numberpictures.pieces import NoPicture, ZERO, read_piece
+from numberpictures.codes import SEMICOLON, ZERO
+from numberpictures.pieces import NoPicture, read_piece
 from numberpictures.utf8 import is_well_made
-
-SEMICOLON = 59
 
 MOST_BYTES = 255
 MOST_SECTIONS = 4
@@ -24,12 +23,13 @@ DIGIT_PIECES = ("place", "point", "comma", "percent", "exponent")
 
 
 class Section:
-    """A section's colour (0 none), its kind, and whether it has a condition."""
+    """A section's colour (0 none), its kind, its condition (None if it has none) and all its pieces."""
 
-    def __init__(self, colour, kind, has_condition):
+    def __init__(self, colour, kind, condition, pieces):
         self.colour = colour
         self.kind = kind
-        self.has_condition = has_condition
+        self.condition = condition
+        self.pieces = pieces
 
 
 def read_sections(picture):
@@ -63,10 +63,11 @@ def part_pieces(picture):
 
 def make_section(pieces):
     colours = [piece.value for piece in pieces if piece.name == "colour"]
-    conditions = [piece for piece in pieces if piece.name == "condition"]
+    conditions = [piece.value for piece in pieces if piece.name == "condition"]
     if len(colours) > 1 or len(conditions) > 1:
         raise NoPicture("more than one colour or condition")
-    return Section(sum(colours), find_kind(pieces), len(conditions) == 1)
+    condition = conditions[0] if len(conditions) == 1 else None
+    return Section(sum(colours), find_kind(pieces), condition, pieces)
 
 
 def find_kind(pieces):
@@ -126,6 +127,18 @@ def are_right_together(sections):
         return False
     if any([section.kind == WITH_TEXT for section in sections[:-1]]):
         return False
-    if any([section.has_condition for section in sections[2:]]):
+    if any([section.condition is not None for section in sections[2:]]):
         return False
     return len(sections) < MOST_SECTIONS or sections[3].kind in (TEXTS_ALONE, WITH_TEXT)
+
+
+def text_sections(sections):
+    """The section of texts, alone in a list, or an empty list: the fourth, or the last if it's of kind 3."""
+    if len(sections) == MOST_SECTIONS or sections[-1].kind == WITH_TEXT:
+        return sections[-1:]
+    return []
+
+
+def number_sections(sections):
+    """The sections of numbers, which are all others."""
+    return sections[:len(sections) - len(text_sections(sections))]

@@ -1,15 +1,33 @@
 """What the tests of pictures share."""
 
+import decimal
 import unittest
 
-from numberpictures.pictures import check
+from numberpictures.pictures import check, show
 
 NO_PICTURE = [-3]
+WRONG_ARGUMENT = [-1]
+CANNOT_SHOW = [-4]
 
 
 def bytes_of(picture):
     """A picture's bytes as a list; a picture may be written as a text or as bytes."""
     return list(picture.encode("utf-8") if isinstance(picture, str) else picture)
+
+
+def number(written):
+    """The value of a number that is written as a text, or given as a whole number."""
+    with decimal.localcontext() as context:
+        context.prec = 100
+        scaled = decimal.Decimal(written) * 10 ** 12
+        if scaled != int(scaled):
+            raise AssertionError(f"{written} has more than 12 decimals")
+        return [1, int(scaled)]
+
+
+def text(written):
+    codes = bytes_of(written)
+    return [2, len(codes)] + codes
 
 
 class PictureTest(unittest.TestCase):
@@ -25,3 +43,23 @@ class PictureTest(unittest.TestCase):
     def is_refused(self, *pictures):
         for picture in pictures:
             self.answers(picture, NO_PICTURE)
+
+
+class ShowTest(unittest.TestCase):
+    def gives(self, picture, value, expected):
+        """The value is answered with just this list."""
+        with self.subTest(picture=picture, value=value):
+            self.assertEqual(show(bytes_of(picture), value), expected)
+
+    def shows_value(self, picture, value, expected, colour=0):
+        """The value is shown as this text, in this colour."""
+        with self.subTest(picture=picture, value=value):
+            answer = show(bytes_of(picture), value)
+            codes = bytes_of(expected)
+            told = bytes(answer[2:]).decode("utf-8", "replace")
+            self.assertEqual(answer, [colour, len(codes)] + codes, f"it shows {told!r}, not {expected!r}")
+
+    def shows(self, picture, expected_by_number, colour=0):
+        """Each of these numbers is shown as the text beside it."""
+        for written, expected in expected_by_number.items():
+            self.shows_value(picture, number(written), expected, colour)

@@ -7,11 +7,21 @@ import sys
 import unittest
 from unittest import mock
 
-from helper import bytes_of
-from numberpictures.pictures import check
+from helper import bytes_of, text
+from numberpictures.pictures import check, show
 
 PICTURES = ("", "0", "[Red]#,##0.00;[Blue](0);General;@", "[h]:mm:ss.000", '"a;b"\\;_\u00e9', "0E+00[>5]", "x", "[", '"',
             "0;0;0;0", "\\", " " * 255, " " * 256)
+
+
+VALUES = ([0], [1, 0], [1, 1234567891234567], [1, -5 * 10 ** 11], [1, 10 ** 36 - 1], [1, 10 ** 36], [1, -2 ** 127],
+          text("abc"), text(""), text("\u00e9" * 2048), text("a" * 7990), text(b"\xff"), [3, 0], [3, 1], [4, 1], [4, 8],
+          [4, 9])
+
+
+def pairs():
+    """Each picture with each value."""
+    return [(bytes_of(picture), list(value)) for picture in PICTURES for value in VALUES]
 
 
 class Unchanging(list):
@@ -25,39 +35,68 @@ class Unchanging(list):
 
 
 class Interface(unittest.TestCase):
-    def test_parameter(self):
+    def calls(self, kind=list):
+        """All answers: what is handed in are lists of this kind."""
+        answers = [check(kind(bytes_of(picture))) for picture in PICTURES]
+        answers += [show(kind(picture), kind(value)) for picture, value in pairs()]
+        return answers
+
+    def test_parameters(self):
         self.assertEqual(list(inspect.signature(check).parameters), ["picture"])
         self.assertEqual(check(picture=[48]), [1, 0, 1])
+        self.assertEqual(list(inspect.signature(show).parameters), ["picture", "value"])
+        self.assertEqual(show(picture=[48], value=[1, 7 * 10 ** 12]), [0, 1, 55])
 
     def test_what_is_handed_in_is_not_changed(self):
-        for picture in PICTURES:
-            handed = bytes_of(picture)
-            before = list(handed)
-            check(handed)
-            self.assertEqual(handed, before)
+        handed = []
+
+        def keep(codes):
+            handed.append((list(codes), codes))
+            return codes
+
+        self.calls(keep)
+        self.assertGreater(len(handed), 2 * len(PICTURES))
+        for before, behind in handed:
+            self.assertEqual(before, behind)
 
     def test_not_for_a_while_either(self):
-        for picture in PICTURES:
-            check(Unchanging(bytes_of(picture)))
+        self.calls(Unchanging)
+
+    def test_an_answer_is_a_list_of_its_own(self):
+        for value in VALUES:
+            picture = [64]
+            handed = list(value)
+            show(picture, handed).append(99)
+            self.assertEqual((picture, handed), ([64], value))
 
     def test_twice_gives_the_same(self):
-        first = [check(bytes_of(picture)) for picture in PICTURES]
-        second = [check(bytes_of(picture)) for picture in reversed(PICTURES)]
+        self.assertEqual(self.calls(), self.calls())
+        first = [show(picture, value) for picture, value in pairs()]
+        second = [show(picture, value) for picture, value in reversed(pairs())]
         self.assertEqual(first, second[::-1])
 
     def test_what_is_done_to_an_answer_is_not_seen_again(self):
-        for picture in PICTURES:
-            answer = check(bytes_of(picture))
-            kept = list(answer)
+        kept = self.calls()
+        for answer in self.calls():
             answer.append(99)
             answer[0] = 98
-            self.assertEqual(check(bytes_of(picture)), kept)
+        self.assertEqual(self.calls(), kept)
 
     def test_answers_are_lists_of_whole_numbers(self):
-        for picture in PICTURES:
-            answer = check(bytes_of(picture))
+        for answer in self.calls():
             self.assertIs(type(answer), list)
             self.assertEqual({type(number) for number in answer}, {int})
+
+    def test_a_refusal_is_its_number_alone(self):
+        for answer in self.calls():
+            self.assertTrue(answer[0] >= 0 or answer in ([-1], [-3], [-4]), answer)
+
+    def test_bytes_stand_behind_how_many_they_are(self):
+        for picture, value in pairs():
+            answer = show(picture, value)
+            if answer[0] >= 0:
+                self.assertEqual(answer[1], len(answer) - 2)
+                self.assertLessEqual(answer[0], 8)
 
     def test_nothing_is_printed_read_or_imported(self):
         out = io.StringIO()
@@ -66,19 +105,21 @@ class Interface(unittest.TestCase):
                 mock.patch("builtins.open", side_effect=AssertionError), \
                 mock.patch("builtins.input", side_effect=AssertionError), \
                 mock.patch("builtins.__import__", side_effect=AssertionError):
-            for picture in PICTURES:
-                check(bytes_of(picture))
+            self.calls()
         self.assertEqual(out.getvalue(), "")
         self.assertEqual(set(sys.modules), before)
 
-    def test_long_pictures_need_no_deep_calls(self):
+    def test_long_input_needs_no_deep_calls(self):
         limit = sys.getrecursionlimit()
         sys.setrecursionlimit(len(inspect.stack()) + 40)
         try:
             answers = [check([32] * 255), check([34] * 254), check([104, 109] * 127), check([91] * 65535)]
+            shown = [show([64] * 255, text("a" * 4096)), show([104, 109] * 127, [1, 0]), show([91] * 65535, [0]),
+                     show([48], text("a" * 7990))]
         finally:
             sys.setrecursionlimit(limit)
         self.assertEqual(answers, [[1, 0, 0], [1, 0, 0], [1, 0, 2], [-3]])
+        self.assertEqual([len(answer) for answer in shown], [2 + 255 * 4096, 2 + 254, 1, 1])
 
 
 if __name__ == "__main__":

@@ -63,6 +63,8 @@ class Language(unittest.TestCase):
                 self.assertNotIsInstance(node.targets[0], (ast.Tuple, ast.List), place)
             if isinstance(node, (ast.For, ast.While)):
                 self.assertEqual(node.orelse, [], place)
+            if isinstance(node, ast.BinOp) and isinstance(node.op, ast.Pow):
+                self.assertIsInstance(node.right, ast.Constant, place)
             if isinstance(node, ast.Constant):
                 self.assertIsInstance(node.value, (int, str, type(None)), place)
                 if isinstance(node.value, str):
