@@ -3,12 +3,17 @@
 BLANK = 32
 QUOTE = 34
 PERCENT = 37
+APOSTROPHE = 39
+OPENING = 40
+CLOSING = 41
 PLUS = 43
 COMMA = 44
 MINUS = 45
 POINT = 46
+SLASH = 47
 ZERO = 48
 NINE = 57
+COLON = 58
 SEMICOLON = 59
 QUESTION = 63
 LARGE_A = 65
@@ -19,6 +24,7 @@ BACKSLASH = 92
 CLOSING_BRACKET = 93
 UNDERSCORE = 95
 SMALL_D = 100
+SMALL_E = 101
 SMALL_H = 104
 SMALL_M = 109
 SMALL_S = 115
@@ -44,6 +50,23 @@ def end_of_digits(codes, begin):
     while end < len(codes) and ZERO <= codes[end] <= NINE:
         end += 1
     return end
+
+
+def are_digits(codes, least, most):
+    """Whether these are digits alone, from so many to so many."""
+    return least <= len(codes) <= most and end_of_digits(codes, 0) == len(codes)
+
+
+def parted(codes, sign):
+    """What stands before, between and behind this sign, wherever it stands."""
+    parts = []
+    begin = 0
+    for at, code in enumerate(codes):
+        if code == sign:
+            parts.append(codes[begin:at])
+            begin = at + 1
+    parts.append(codes[begin:])
+    return parts
 
 
 def number_of(digits):

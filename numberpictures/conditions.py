@@ -1,6 +1,6 @@
 """Reads a section's condition and asks whether it holds of a number."""
 
-from numberpictures.codes import MINUS, POINT, begins_with, end_of_digits, number_of
+from numberpictures.codes import MINUS, POINT, are_digits, begins_with, number_of, parted
 from numberpictures.rounding import power
 
 # The longer ones come first: < would else be taken out of <= and <>.
@@ -28,19 +28,15 @@ def read_condition(inner):
 
 def read_limit(comparison, codes):
     """The condition with this number: perhaps a minus, 1 to 24 digits, perhaps a point and 1 to 12 digits."""
-    begin = 1 if codes[:1] == [MINUS] else 0
-    point = end_of_digits(codes, begin)
-    if not 1 <= point - begin <= MOST_DIGITS:
+    is_below = codes[:1] == [MINUS]
+    parts = parted(codes[1:] if is_below else codes, POINT)
+    if len(parts) > 2 or not are_digits(parts[0], 1, MOST_DIGITS):
         return None
-    decimals = codes[point + 1:]
-    if point < len(codes) and (codes[point] != POINT or not are_decimals(decimals)):
+    if len(parts) == 2 and not are_digits(parts[1], 1, MOST_DECIMALS):
         return None
-    limit = number_of(codes[begin:point] + decimals) * power(10, MOST_DECIMALS - len(decimals))
-    return Condition(comparison, -limit if begin == 1 else limit)
-
-
-def are_decimals(codes):
-    return 1 <= len(codes) <= MOST_DECIMALS and end_of_digits(codes, 0) == len(codes)
+    decimals = parts[1] if len(parts) == 2 else []
+    limit = number_of(parts[0] + decimals) * power(10, MOST_DECIMALS - len(decimals))
+    return Condition(comparison, -limit if is_below else limit)
 
 
 def holds(condition, number):

@@ -1,6 +1,7 @@
 """The calendar: day 1 is January 1, 1900."""
 
 FIRST_YEAR = 1900
+LAST_YEAR = 9999
 LAST_DAY = 2958464
 
 MONTH_NAMES = ("January", "February", "March", "April", "May", "June", "July", "August", "September", "October",
@@ -53,6 +54,21 @@ def date_of(number):
         day -= month_length(year, month)
         month += 1
     return Date(year, month, day)
+
+
+def is_date(year, month, day):
+    """Whether there is such a day in the calendar's years."""
+    if not FIRST_YEAR <= year <= LAST_YEAR or not 1 <= month <= 12:
+        return False
+    return 1 <= day <= month_length(year, month)
+
+
+def number_of_date(year, month, day):
+    """The number of a day that there is."""
+    number = first_day(year) + day - 1
+    for before in range(1, month):
+        number += month_length(year, before)
+    return number
 
 
 def weekday_of(number):

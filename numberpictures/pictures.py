@@ -1,5 +1,6 @@
 """The calls of the package. Each gives back one list of whole numbers; a refusal is its number alone."""
 
+from numberpictures.entering import read_entry
 from numberpictures.pieces import NoPicture
 from numberpictures.sections import read_sections
 from numberpictures.showing import show_value
@@ -36,3 +37,12 @@ def show(picture, value):
     except CannotShow:
         return [CANNOT_SHOW]
     return [shown.colour, len(shown.codes)] + shown.codes
+
+
+def typed(text):
+    """0, then the value that was entered, then how many bytes its picture has (0 none), and these."""
+    try:
+        entry = read_entry(text)
+    except WrongArgument:
+        return [WRONG_ARGUMENT]
+    return [0] + entry.value + [len(entry.picture)] + entry.picture

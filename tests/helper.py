@@ -3,7 +3,7 @@
 import decimal
 import unittest
 
-from numberpictures.pictures import check, show
+from numberpictures.pictures import check, show, typed
 
 NO_PICTURE = [-3]
 WRONG_ARGUMENT = [-1]
@@ -63,3 +63,24 @@ class ShowTest(unittest.TestCase):
         """Each of these numbers is shown as the text beside it."""
         for written, expected in expected_by_number.items():
             self.shows_value(picture, number(written), expected, colour)
+
+
+class TypedTest(unittest.TestCase):
+    def reads(self, written, value, picture=""):
+        """What is typed is read as this value, with this picture."""
+        with self.subTest(written=written):
+            codes = bytes_of(picture)
+            self.assertEqual(typed(bytes_of(written)), [0] + value + [len(codes)] + codes)
+
+    def reads_number(self, written, expected, picture=""):
+        self.reads(written, number(expected), picture)
+
+    def are_texts(self, *many):
+        """Each of these is a text, all of it."""
+        for written in many:
+            self.reads(written, text(written))
+
+    def are_wrong(self, *many):
+        for written in many:
+            with self.subTest(written=written):
+                self.assertEqual(typed(bytes_of(written)), WRONG_ARGUMENT)

@@ -8,7 +8,7 @@ import unittest
 from unittest import mock
 
 from helper import bytes_of, text
-from numberpictures.pictures import check, show
+from numberpictures.pictures import check, show, typed
 
 PICTURES = ("", "0", "[Red]#,##0.00;[Blue](0);General;@", "[h]:mm:ss.000", '"a;b"\\;_\u00e9', "0E+00[>5]", "x", "[", '"',
             "0;0;0;0", "\\", " " * 255, " " * 256)
@@ -17,6 +17,10 @@ PICTURES = ("", "0", "[Red]#,##0.00;[Blue](0);General;@", "[h]:mm:ss.000", '"a;b
 VALUES = ([0], [1, 0], [1, 1234567891234567], [1, -5 * 10 ** 11], [1, 10 ** 36 - 1], [1, 10 ** 36], [1, -2 ** 127],
           text("abc"), text(""), text("\u00e9" * 2048), text("a" * 7990), text(b"\xff"), [3, 0], [3, 1], [4, 1], [4, 8],
           [4, 9])
+
+
+TEXTS = ("", "  ", "'", "' a ", " 'a", "true", "#N/A", "5", " -5.5 ", "(1,000.5%)", "1e5", "2024-02-29", "6:30 PM",
+         "29.2.2024 6:30:15.5", "a b ", "\u00e9", "1" * 60, "1" * 61, "1e99", b"\xff", "a" * 4096, "a" * 4097, " " * 65535)
 
 
 def pairs():
@@ -39,6 +43,7 @@ class Interface(unittest.TestCase):
         """All answers: what is handed in are lists of this kind."""
         answers = [check(kind(bytes_of(picture))) for picture in PICTURES]
         answers += [show(kind(picture), kind(value)) for picture, value in pairs()]
+        answers += [typed(kind(bytes_of(written))) for written in TEXTS]
         return answers
 
     def test_parameters(self):
@@ -46,6 +51,8 @@ class Interface(unittest.TestCase):
         self.assertEqual(check(picture=[48]), [1, 0, 1])
         self.assertEqual(list(inspect.signature(show).parameters), ["picture", "value"])
         self.assertEqual(show(picture=[48], value=[1, 7 * 10 ** 12]), [0, 1, 55])
+        self.assertEqual(list(inspect.signature(typed).parameters), ["text"])
+        self.assertEqual(typed(text=[55]), [0, 1, 7 * 10 ** 12, 0])
 
     def test_what_is_handed_in_is_not_changed(self):
         handed = []
@@ -68,11 +75,18 @@ class Interface(unittest.TestCase):
             handed = list(value)
             show(picture, handed).append(99)
             self.assertEqual((picture, handed), ([64], value))
+        for written in TEXTS:
+            handed = bytes_of(written)
+            typed(handed).append(99)
+            self.assertEqual(handed, bytes_of(written))
 
     def test_twice_gives_the_same(self):
         self.assertEqual(self.calls(), self.calls())
         first = [show(picture, value) for picture, value in pairs()]
         second = [show(picture, value) for picture, value in reversed(pairs())]
+        self.assertEqual(first, second[::-1])
+        first = [typed(bytes_of(written)) for written in TEXTS]
+        second = [typed(bytes_of(written)) for written in reversed(TEXTS)]
         self.assertEqual(first, second[::-1])
 
     def test_what_is_done_to_an_answer_is_not_seen_again(self):
@@ -98,6 +112,17 @@ class Interface(unittest.TestCase):
                 self.assertEqual(answer[1], len(answer) - 2)
                 self.assertLessEqual(answer[0], 8)
 
+    def test_what_is_typed_is_answered_with_a_value_and_a_picture(self):
+        sizes = {0: 1, 1: 2, 3: 2, 4: 2}
+        for written in TEXTS:
+            answer = typed(bytes_of(written))
+            if answer[0] == 0:
+                size = 2 + answer[2] if answer[1] == 2 else sizes[answer[1]]
+                picture = answer[2 + size:]
+                self.assertEqual(answer[1 + size], len(picture))
+                # The value and the picture are such that they can be shown.
+                self.assertGreaterEqual(show(picture, answer[1:1 + size])[0], 0)
+
     def test_nothing_is_printed_read_or_imported(self):
         out = io.StringIO()
         before = set(sys.modules)
@@ -116,10 +141,12 @@ class Interface(unittest.TestCase):
             answers = [check([32] * 255), check([34] * 254), check([104, 109] * 127), check([91] * 65535)]
             shown = [show([64] * 255, text("a" * 4096)), show([104, 109] * 127, [1, 0]), show([91] * 65535, [0]),
                      show([48], text("a" * 7990))]
+            read = [typed([32] * 4096), typed([49] * 4096), typed([40] * 4096), typed([44] * 4096), typed([32] * 65535)]
         finally:
             sys.setrecursionlimit(limit)
         self.assertEqual(answers, [[1, 0, 0], [1, 0, 0], [1, 0, 2], [-3]])
         self.assertEqual([len(answer) for answer in shown], [2 + 255 * 4096, 2 + 254, 1, 1])
+        self.assertEqual([len(answer) for answer in read], [3, 4 + 4096, 4 + 4096, 4 + 4096, 1])
 
 
 if __name__ == "__main__":

@@ -63,6 +63,9 @@ class Language(unittest.TestCase):
                 self.assertNotIsInstance(node.targets[0], (ast.Tuple, ast.List), place)
             if isinstance(node, (ast.For, ast.While)):
                 self.assertEqual(node.orelse, [], place)
+            if isinstance(node, ast.ListComp):
+                self.assertEqual(len(node.generators), 1, place)
+                self.assertLessEqual(len(node.generators[0].ifs), 1, place)
             if isinstance(node, ast.BinOp) and isinstance(node.op, ast.Pow):
                 self.assertIsInstance(node.right, ast.Constant, place)
             if isinstance(node, ast.Constant):
