@@ -24,9 +24,10 @@ def just_before(value):
 class Days(ShowTest):
     def test_days(self):
         days = {0: "1900-01-00", 1: "1900-01-01", 2: "1900-01-02", 31: "1900-01-31", 32: "1900-02-01", 59: "1900-02-28",
-                60: "1900-03-01", 61: "1900-03-02", 365: "1900-12-31", 366: "1901-01-01", 1461: "1904-01-01", 36525: "2000-01-01", 36583: "2000-02-28", 36584: "2000-02-29", 36585: "2000-03-01",
-                45290: "2023-12-31", 45291: "2024-01-01", 45349: "2024-02-28", 45350: "2024-02-29",
-                45351: "2024-03-01", LAST_DAY: "9999-12-31", LAST_DAY - 365: "9998-12-31"}
+                60: "1900-03-01", 61: "1900-03-02", 365: "1900-12-31", 366: "1901-01-01", 1461: "1904-01-01",
+                36525: "2000-01-01", 36583: "2000-02-28", 36584: "2000-02-29", 36585: "2000-03-01", 45290: "2023-12-31",
+                45291: "2024-01-01", 45349: "2024-02-28", 45350: "2024-02-29", 45351: "2024-03-01",
+                LAST_DAY: "9999-12-31", LAST_DAY - 365: "9998-12-31"}
         self.shows("yyyy-mm-dd", days)
 
     def test_the_ends_of_leap_years(self):
@@ -38,10 +39,11 @@ class Days(ShowTest):
         self.shows("yyyy-mm-dd", {73108: "2100-02-28", 73109: "2100-03-01", 73049 + 1: "2100-01-01"})
 
     def test_years(self):
-        for picture, shown in (("y", "00"), ("yy", "00"), ("yyy", "1900"), ("yyyy", "1900"), ("Y", "00"), ("YYYY", "1900")):
+        for picture, shown in (("y", "00"), ("yy", "00"), ("yyy", "1900"), ("yyyy", "1900"), ("Y", "00"),
+                               ("YYYY", "1900")):
             self.shows(picture, {"1": shown})
-        self.shows("y yy yyy yyyy", {"45350": "24 24 2024 2024", "36525": "00 00 2000 2000", LAST_DAY: "99 99 9999 9999",
-                                     39083: "07 07 2007 2007"})
+        self.shows("y yy yyy yyyy", {"45350": "24 24 2024 2024", "36525": "00 00 2000 2000",
+                                     LAST_DAY: "99 99 9999 9999", 39083: "07 07 2007 2007"})
 
     def test_months(self):
         day = 1
@@ -160,8 +162,8 @@ class Minutes(ShowTest):
             self.is_so(picture, shown)
 
     def test_behind_hours(self):
-        for picture, shown in (("h m", "5 7"), ("h mm", "5 07"), ("hh:m", "05:7"), ("h:mm d", "5:07 1"), ("h m d", "5 7 1"),
-                               ("h m m", "5 7 3"), ("h d m", "5 1 3"),
+        for picture, shown in (("h m", "5 7"), ("h mm", "5 07"), ("hh:m", "05:7"), ("h:mm d", "5:07 1"),
+                               ("h m d", "5 7 1"), ("h m m", "5 7 3"), ("h d m", "5 1 3"),
                                ("d h m", "1 5 7"), ("hm", "57"), ("hhmm", "0507"), ("hd", "51"), ("hdm", "513")):
             self.is_so(picture, shown)
 
@@ -182,9 +184,10 @@ class Minutes(ShowTest):
             self.is_so(picture, shown)
 
     def test_what_stands_between(self):
-        for picture, shown in (('h"d"m', "5d7"), ("h AM/PM m", "5 AM 7"), ("h A/P:mm", "5 A:07"), ("m AM/PM s", "7 AM 9"),
-                               ('m"h"s', "7h9"), ("h[>1]m", "57"), ('"h"m', "h3"), ('m"s"', "3s"), ("\\hm", "h3"),
-                               ("m\\s", "3s"), ("_hm", " 3"), ("m:_s", "3: "), ("h - - - mm", "5 - - - 07")):
+        for picture, shown in (('h"d"m', "5d7"), ("h AM/PM m", "5 AM 7"), ("h A/P:mm", "5 A:07"),
+                               ("m AM/PM s", "7 AM 9"), ('m"h"s', "7h9"), ("h[>1]m", "57"), ('"h"m', "h3"),
+                               ('m"s"', "3s"), ("\\hm", "h3"), ("m\\s", "3s"), ("_hm", " 3"), ("m:_s", "3: "),
+                               ("h - - - mm", "5 - - - 07")):
             self.is_so(picture, shown)
 
     def test_sections_are_apart(self):
@@ -193,7 +196,8 @@ class Minutes(ShowTest):
 
     def test_names_stay(self):
         for picture, shown in (("h mmm", "5 Mar"), ("h mmmm", "5 March"), ("h mmmmm", "5 M"), ("mmm s", "Mar 9"),
-                               ("mmmm:ss", "March:09"), ("mmmmm s", "M 9"), ("h mmm m", "5 Mar 3"), ("h mmm m s", "5 Mar 7 9")):
+                               ("mmmm:ss", "March:09"), ("mmmmm s", "M 9"), ("h mmm m", "5 Mar 3"),
+                               ("h mmm m s", "5 Mar 7 9")):
             self.is_so(picture, shown)
 
 

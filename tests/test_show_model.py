@@ -216,8 +216,8 @@ SOME = (0, 1, ONE // 2, ONE // 2 - 1, ONE, 5 * ONE, 95 * ONE // 10, 994999 * ONE
 NUMBERS = SOME + tuple(-z for z in SOME if z)
 
 MOMENTS = (0, ONE - 1, ONE // 2, ONE, 59 * ONE + 123456789012, 60 * ONE, 36584 * ONE + 999999999999,
-           45350 * ONE + 52083333333, 2958464 * ONE + 999988425926, 2958465 * ONE - 1, 2958465 * ONE, 366 * ONE - 5787037,
-           156250, 156250000, 45350 * ONE + 541724537037)
+           45350 * ONE + 52083333333, 2958464 * ONE + 999988425926, 2958465 * ONE - 1, 2958465 * ONE,
+           366 * ONE - 5787037, 156250, 156250000, 45350 * ONE + 541724537037)
 
 
 class AgainstTheModel(unittest.TestCase):
@@ -249,8 +249,8 @@ class AgainstTheModel(unittest.TestCase):
 
     def test_exponents(self):
         for before, behind, sign, zeros in itertools.product(
-                ("0", "#", "?0", "#?0", "0000", "#####", '0"x"0', "0" * 13), (".", ".0", ".#?", ".00", ".???", ""), "+-",
-                ("0", "00", "000")):
+                ("0", "#", "?0", "#?0", "0000", "#####", '0"x"0', "0" * 13), (".", ".0", ".#?", ".00", ".???", ""),
+                "+-", ("0", "00", "000")):
             self.compare_one(f"{before}{behind}E{sign}{zeros}", NUMBERS)
 
     def test_exponents_of_many_numbers(self):
@@ -273,7 +273,8 @@ class AgainstTheModel(unittest.TestCase):
 
     def test_many_moments(self):
         chosen = random.Random(3)
-        for picture in ("yyyy-mm-dd hh:mm:ss", "h:mm:ss.0 AM/PM", "[h]:mm:ss.000", "[mm]:s.00", "[s].000 s s.0", "h:m A/P"):
+        for picture in ("yyyy-mm-dd hh:mm:ss", "h:mm:ss.0 AM/PM", "[h]:mm:ss.000", "[mm]:s.00", "[s].000 s s.0",
+                        "h:m A/P"):
             self.compare_one(picture, [chosen.randrange(10 ** chosen.randrange(1, 20)) for _ in range(300)])
 
     def test_sections(self):

@@ -25,8 +25,9 @@ class Refusals(TypedTest):
         self.reads(" " * 4095 + "5", number("5"))
 
     def test_not_well_made(self):
-        for wrong in (b"\x80", b"\xff", b"\xc3", b"\xc0\x80", b"\xc1\xbf", b"\xe0\x80\x80", b"\xed\xa0\x80", b"\xed\xbf\xbf",
-                      b"\xf0\x80\x80\x80", b"\xf4\x90\x80\x80", b"\xf5\x80\x80\x80", b"\xe2\x82", b"\xc3("):
+        for wrong in (b"\x80", b"\xff", b"\xc3", b"\xc0\x80", b"\xc1\xbf", b"\xe0\x80\x80", b"\xed\xa0\x80",
+                      b"\xed\xbf\xbf", b"\xf0\x80\x80\x80", b"\xf4\x90\x80\x80", b"\xf5\x80\x80\x80", b"\xe2\x82",
+                      b"\xc3("):
             self.are_wrong(wrong, b"'" + wrong, b"5" + wrong, b" " + wrong + b" ", b"true" + wrong, wrong + b"5")
 
     def test_well_made(self):
@@ -51,9 +52,9 @@ class Blanks(TypedTest):
                     self.reads(before + written + behind, value, picture)
 
     def test_within(self):
-        self.are_texts("tr ue", "# N/A", "5 5", "- 5", "( 5)", "(5 )", "5 %", "1, 000", "1 ,000", "1 .5", "1. 5", "1e 5",
-                       "1 e5", "1e- 5", "2024 -01-01", "2024- 01-01", "6 :00", "6: 00", "6:00: 00", "6:00:00 .5",
-                       "+ 5", "1 000")
+        self.are_texts("tr ue", "# N/A", "5 5", "- 5", "( 5)", "(5 )", "5 %", "1, 000", "1 ,000", "1 .5", "1. 5",
+                       "1e 5", "1 e5", "1e- 5", "2024 -01-01", "2024- 01-01", "6 :00", "6: 00", "6:00: 00",
+                       "6:00:00 .5", "+ 5", "1 000")
 
     def test_a_text_keeps_them(self):
         self.are_texts(" a", "a ", "  a b  ", " (5)% ", " 1.2.3 ")
@@ -64,8 +65,8 @@ class Apostrophe(TypedTest):
         self.reads("'", text(""))
 
     def test_what_is_behind_it(self):
-        for written in ("a", "5", "true", "#N/A", "2024-01-01", "6:00", "'", "''", "'5", "5%", "\u00e9", " ", "   ", " 5",
-                        "5 ", "  5  ", "a  "):
+        for written in ("a", "5", "true", "#N/A", "2024-01-01", "6:00", "'", "''", "'5", "5%", "\u00e9", " ", "   ",
+                        " 5", "5 ", "  5  ", "a  "):
             self.reads("'" + written, text(written))
 
     def test_behind_a_blank(self):
@@ -83,8 +84,8 @@ class Truths(TypedTest):
             self.reads(written, [3, 0])
 
     def test_nothing_else(self):
-        self.are_texts("tru", "truee", "fals", "falsee", "t", "f", "yes", "no", "true!", "-true", "(true)", "true false",
-                       "TRUE%", "trueFALSE")
+        self.are_texts("tru", "truee", "fals", "falsee", "t", "f", "yes", "no", "true!", "-true", "(true)",
+                       "true false", "TRUE%", "trueFALSE")
 
 
 class Errors(TypedTest):
@@ -102,9 +103,10 @@ class Errors(TypedTest):
 
 class Texts(TypedTest):
     def test_anything_else(self):
-        self.are_texts("a", "abc", "five", "5a", "a5", "5 apples", "$5", "5$", "0x10", "1_000", "--", "+", "-", "()", "(", ")",
-                       "%", ".", ",", "e", "E5", ":", "/", "1/2", "1/2/3/4", "@", '"5"', "=5", "infinity", "nan", "General",
-                       "\u0665", "\uff15", "\u00b2", "5\u066a", "\u22125", "[5]", "{5}", "1;2", "1:2:3:4", "\\5", "*")
+        self.are_texts("a", "abc", "five", "5a", "a5", "5 apples", "$5", "5$", "0x10", "1_000", "--", "+", "-", "()",
+                       "(", ")", "%", ".", ",", "e", "E5", ":", "/", "1/2", "1/2/3/4", "@", '"5"', "=5", "infinity",
+                       "nan", "General", "\u0665", "\uff15", "\u00b2", "5\u066a", "\u22125", "[5]", "{5}", "1;2",
+                       "1:2:3:4", "\\5", "*")
 
 
 if __name__ == "__main__":
