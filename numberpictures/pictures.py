@@ -1,5 +1,6 @@
 """The calls of the package. Each gives back one list of whole numbers; a refusal is its number alone."""
 
+from numberpictures.days import is_date, number_of_date
 from numberpictures.entering import read_entry
 from numberpictures.pieces import NoPicture
 from numberpictures.sections import read_sections
@@ -46,3 +47,10 @@ def typed(text):
     except WrongArgument:
         return [WRONG_ARGUMENT]
     return [0] + entry.value + [len(entry.picture)] + entry.picture
+
+
+def day_number(year, month, day):
+    """The number of a day, of which 1 is January 1, 1900."""
+    if not is_date(year, month, day):
+        return [WRONG_ARGUMENT]
+    return [number_of_date(year, month, day)]

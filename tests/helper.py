@@ -1,9 +1,16 @@
 """What the tests of pictures share."""
 
+import calendar
 import decimal
 import unittest
 
 from numberpictures.pictures import check, show, typed
+
+LAST_DAY = 2958464
+
+# The ends of what is handed in as a whole number.
+LEAST = -2147483648
+MOST = 2147483647
 
 NO_PICTURE = [-3]
 WRONG_ARGUMENT = [-1]
@@ -28,6 +35,14 @@ def number(written):
 def text(written):
     codes = bytes_of(written)
     return [2, len(codes)] + codes
+
+
+def days_in_turn():
+    """Every day from 1900 to 9999, by Python's own calendar: its year, month and day."""
+    for year in range(1900, 10000):
+        for month in range(1, 13):
+            for day in range(1, calendar.monthrange(year, month)[1] + 1):
+                yield year, month, day
 
 
 class PictureTest(unittest.TestCase):

@@ -7,8 +7,8 @@ import sys
 import unittest
 from unittest import mock
 
-from helper import bytes_of, text
-from numberpictures.pictures import check, show, typed
+from helper import LEAST, MOST, bytes_of, text
+from numberpictures.pictures import check, day_number, show, typed
 
 PICTURES = ("", "0", "[Red]#,##0.00;[Blue](0);General;@", "[h]:mm:ss.000", '"a;b"\\;_\u00e9', "0E+00[>5]", "x", "[",
             '"', "0;0;0;0", "\\", " " * 255, " " * 256)
@@ -22,6 +22,9 @@ VALUES = ([0], [1, 0], [1, 1234567891234567], [1, -5 * 10 ** 11], [1, 10 ** 36 -
 TEXTS = ("", "  ", "'", "' a ", " 'a", "true", "#N/A", "5", " -5.5 ", "(1,000.5%)", "1e5", "2024-02-29", "6:30 PM",
          "29.2.2024 6:30:15.5", "a b ", "\u00e9", "1" * 60, "1" * 61, "1e99", b"\xff", "a" * 4096, "a" * 4097,
          " " * 65535)
+
+DAYS = ((1900, 1, 1), (1900, 2, 29), (2024, 2, 29), (2023, 12, 31), (9999, 12, 31), (10000, 1, 1), (2024, 13, 1),
+        (2024, 1, 0), (LEAST, LEAST, LEAST), (MOST, MOST, MOST))
 
 
 def pairs():
@@ -45,6 +48,7 @@ class Interface(unittest.TestCase):
         answers = [check(kind(bytes_of(picture))) for picture in PICTURES]
         answers += [show(kind(picture), kind(value)) for picture, value in pairs()]
         answers += [typed(kind(bytes_of(written))) for written in TEXTS]
+        answers += [day_number(year, month, day) for year, month, day in DAYS]
         return answers
 
     def test_parameters(self):
@@ -54,6 +58,8 @@ class Interface(unittest.TestCase):
         self.assertEqual(show(picture=[48], value=[1, 7 * 10 ** 12]), [0, 1, 55])
         self.assertEqual(list(inspect.signature(typed).parameters), ["text"])
         self.assertEqual(typed(text=[55]), [0, 1, 7 * 10 ** 12, 0])
+        self.assertEqual(list(inspect.signature(day_number).parameters), ["year", "month", "day"])
+        self.assertEqual(day_number(day=29, month=2, year=2024), [45350])
 
     def test_what_is_handed_in_is_not_changed(self):
         handed = []

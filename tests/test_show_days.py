@@ -2,9 +2,7 @@
 
 import unittest
 
-from helper import CANNOT_SHOW, ShowTest, number
-
-LAST_DAY = 2958464
+from helper import CANNOT_SHOW, LAST_DAY, ShowTest, number
 
 MONTHS = ("January", "February", "March", "April", "May", "June", "July", "August", "September", "October", "November",
           "December")
