@@ -44,9 +44,9 @@ def first_day(year):
 
 def date_of(number):
     """The date of a day from 0 on; day 0 is day 0 of January 1900."""
-    # No year has more than 366 days, so this year isn't too late; it's a few years too early at most.
-    year = FIRST_YEAR + max(number - 1, 0) // 366
-    while first_day(year + 1) <= number:
+    # Four years have 1461 days at most, and 1900 is no leap year: this year isn't too late, and at most one too early.
+    year = FIRST_YEAR + number * 4 // 1461
+    if first_day(year + 1) <= number:
         year += 1
     day = number - first_day(year) + 1
     month = 1

@@ -1,6 +1,6 @@
 """The calls of the package. Each gives back one list of whole numbers; a refusal is its number alone."""
 
-from numberpictures.days import is_date, number_of_date
+from numberpictures.days import LAST_DAY, date_of, is_date, number_of_date, weekday_of
 from numberpictures.entering import read_entry
 from numberpictures.pieces import NoPicture
 from numberpictures.sections import read_sections
@@ -54,3 +54,11 @@ def day_number(year, month, day):
     if not is_date(year, month, day):
         return [WRONG_ARGUMENT]
     return [number_of_date(year, month, day)]
+
+
+def date(number):
+    """0, then the year, the month, the day and the weekday (0 Sunday) of the day with this number."""
+    if not 1 <= number <= LAST_DAY:
+        return [WRONG_ARGUMENT]
+    found = date_of(number)
+    return [0, found.year, found.month, found.day, weekday_of(number)]

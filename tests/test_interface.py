@@ -1,14 +1,16 @@
 """What the interface says of every call: what is handed in stays, nothing is kept, nothing is printed."""
 
 import contextlib
+import copy
 import inspect
 import io
+import itertools
 import sys
 import unittest
 from unittest import mock
 
-from helper import LEAST, MOST, bytes_of, text
-from numberpictures.pictures import check, day_number, show, typed
+from helper import LAST_DAY, LEAST, MOST, bytes_of, number, text
+from numberpictures.pictures import check, date, day_number, show, typed
 
 PICTURES = ("", "0", "[Red]#,##0.00;[Blue](0);General;@", "[h]:mm:ss.000", '"a;b"\\;_\u00e9', "0E+00[>5]", "x", "[",
             '"', "0;0;0;0", "\\", " " * 255, " " * 256)
@@ -25,6 +27,29 @@ TEXTS = ("", "  ", "'", "' a ", " 'a", "true", "#N/A", "5", " -5.5 ", "(1,000.5%
 
 DAYS = ((1900, 1, 1), (1900, 2, 29), (2024, 2, 29), (2023, 12, 31), (9999, 12, 31), (10000, 1, 1), (2024, 13, 1),
         (2024, 1, 0), (LEAST, LEAST, LEAST), (MOST, MOST, MOST))
+
+NUMBERS = (1, 59, 60, 45350, LAST_DAY, 0, -1, LAST_DAY + 1, LEAST, MOST)
+
+# Of each call the name, what is handed in and what is answered: all are answered, all are refused, and edges.
+FIVE_CALLS = (
+    (("check", [bytes_of("[Red]0.0;@")], [2, 6, 1, 0, 3]),
+     ("show", [bytes_of("[Red]0.0;@"), number("-2.25")], [6, 4] + bytes_of("-2.3")),
+     ("typed", [bytes_of(" 29.2.2024 ")], [0, 1, 45350 * 10 ** 12, 10] + bytes_of("yyyy-mm-dd")),
+     ("day_number", [2024, 2, 29], [45350]),
+     ("date", [45350], [0, 2024, 2, 29, 4])),
+    (("check", [bytes_of("0.0.0")], [-3]),
+     ("show", [bytes_of("yyyy"), number("-1")], [-4]),
+     ("typed", [[255]], [-1]),
+     ("day_number", [2023, 2, 29], [-1]),
+     ("date", [0], [-1])),
+    (("check", [[]], [1, 0, 0]),
+     ("show", [bytes_of("0;0;0;@@"), text("ab")], [0, 4] + bytes_of("abab")),
+     ("typed", [bytes_of("false")], [0, 3, 0, 0]),
+     ("day_number", [1900, 1, 1], [1]),
+     ("date", [LAST_DAY], [0, 9999, 12, 31, 5])),
+)
+
+BY_NAME = {"check": check, "show": show, "typed": typed, "day_number": day_number, "date": date}
 
 
 def pairs():
@@ -49,6 +74,7 @@ class Interface(unittest.TestCase):
         answers += [show(kind(picture), kind(value)) for picture, value in pairs()]
         answers += [typed(kind(bytes_of(written))) for written in TEXTS]
         answers += [day_number(year, month, day) for year, month, day in DAYS]
+        answers += [date(number) for number in NUMBERS]
         return answers
 
     def test_parameters(self):
@@ -60,6 +86,8 @@ class Interface(unittest.TestCase):
         self.assertEqual(typed(text=[55]), [0, 1, 7 * 10 ** 12, 0])
         self.assertEqual(list(inspect.signature(day_number).parameters), ["year", "month", "day"])
         self.assertEqual(day_number(day=29, month=2, year=2024), [45350])
+        self.assertEqual(list(inspect.signature(date).parameters), ["number"])
+        self.assertEqual(date(number=45350), [0, 2024, 2, 29, 4])
 
     def test_what_is_handed_in_is_not_changed(self):
         handed = []
@@ -95,6 +123,44 @@ class Interface(unittest.TestCase):
         first = [typed(bytes_of(written)) for written in TEXTS]
         second = [typed(bytes_of(written)) for written in reversed(TEXTS)]
         self.assertEqual(first, second[::-1])
+
+    def answers_as_told(self, name, handed, expected):
+        given = copy.deepcopy(handed)
+        answer = BY_NAME[name](*given)
+        self.assertEqual(answer, expected)
+        self.assertEqual({type(one) for one in answer}, {int})
+        self.assertIs(type(answer), list)
+        self.assertEqual(given, handed)
+
+    def test_the_five_calls_in_any_order_and_each_twice(self):
+        for calls in FIVE_CALLS:
+            for order in itertools.permutations(calls):
+                for name, handed, expected in order:
+                    self.answers_as_told(name, handed, expected)
+                    self.answers_as_told(name, handed, expected)
+                for name, handed, expected in order:
+                    self.answers_as_told(name, handed, expected)
+
+    def test_one_list_handed_in_again_and_again(self):
+        codes = bytes_of("yyyy-mm-dd")
+        value = number("45350")
+        for _ in range(3):
+            self.assertEqual(check(codes), [1, 0, 2])
+            self.assertEqual(show(codes, value), [0, 10] + bytes_of("2024-02-29"))
+            self.assertEqual(typed(codes), [0, 2, 10] + codes + [0])
+        self.assertEqual((codes, value), (bytes_of("yyyy-mm-dd"), number("45350")))
+
+    def tops(self):
+        """All values at the tops of the package's files, as they are now."""
+        modules = [module for name, module in sorted(sys.modules.items()) if name.split(".")[0] == "numberpictures"]
+        return [(module.__name__, name, repr(value)) for module in modules for name, value in vars(module).items()
+                if not name.startswith("__")]
+
+    def test_nothing_is_kept_at_the_tops_of_files(self):
+        before = self.tops()
+        self.calls()
+        self.assertGreater(len(before), 100)
+        self.assertEqual(self.tops(), before)
 
     def test_what_is_done_to_an_answer_is_not_seen_again(self):
         kept = self.calls()
